@@ -1,0 +1,1 @@
+"""Words defined: which definition of a law's word counts where and when."""

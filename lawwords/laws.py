@@ -1,0 +1,162 @@
+"""The calls on a law, and what is answered to them."""
+
+from lawwords.meanings import WITHOUT_END, counting_on, definition_at
+from lawwords.model import Definition, Law, Part
+from lawwords.spelling import MOST_SPELLED, spelled_out
+
+WRONG = -1
+NOT_THERE = -2
+TAKEN = -3
+TOO_MUCH = -5
+STANDS_NOWHERE = -6
+IN_A_CIRCLE = -7
+
+MOST_WORDS = 20
+LAST_WORD = 99999
+LAST_DAY = 99999
+MOST_PARTS = 15
+MOST_DEFINITIONS = 20
+
+
+def wrong_word(word):
+    return word == 0 or word > LAST_WORD
+
+
+def wrong_words(words):
+    return len(words) > MOST_WORDS or any([wrong_word(word) for word in words])
+
+
+def wrong_end(since, until):
+    return until <= since or until > LAST_DAY
+
+
+def wrong_days(since, until):
+    if since > LAST_DAY:
+        return True
+    return until != WITHOUT_END and wrong_end(since, until)
+
+
+def stands_somewhere(law, word):
+    for part in law.parts:
+        if word in part.words:
+            return True
+    for definition in law.definitions:
+        if word == definition.word or word in definition.body:
+            return True
+    return False
+
+
+def renamed(words, old, new):
+    return [new if word == old else word for word in words]
+
+
+# A list of calls is about one law, new already: there is nothing left to begin.
+def begins(law, numbers):
+    return [0]
+
+
+def add_part(law, numbers):
+    above = numbers[0]
+    words = numbers[1:]
+    if above >= len(law.parts):
+        return [NOT_THERE]
+    if wrong_words(words):
+        return [WRONG]
+    if len(law.parts) >= MOST_PARTS:
+        return [TOO_MUCH]
+    law.parts.append(Part(above, words))
+    return [len(law.parts) - 1]
+
+
+def define(law, numbers):
+    part = numbers[0]
+    word = numbers[1]
+    since = numbers[2]
+    until = numbers[3]
+    body = numbers[4:]
+    if part >= len(law.parts):
+        return [NOT_THERE]
+    if wrong_word(word) or wrong_days(since, until) or len(body) == 0 or wrong_words(body):
+        return [WRONG]
+    if len(law.definitions) >= MOST_DEFINITIONS:
+        return [TOO_MUCH]
+    law.definitions.append(Definition(part, word, since, until, body))
+    return [len(law.definitions) - 1]
+
+
+def ends(law, numbers):
+    number = numbers[0]
+    day = numbers[1]
+    if number >= len(law.definitions):
+        return [NOT_THERE]
+    definition = law.definitions[number]
+    if wrong_end(definition.since, day):
+        return [WRONG]
+    definition.until = day
+    return [0]
+
+
+def rename(law, numbers):
+    old = numbers[0]
+    new = numbers[1]
+    if wrong_word(old) or wrong_word(new):
+        return [WRONG]
+    if not stands_somewhere(law, old):
+        return [STANDS_NOWHERE]
+    if stands_somewhere(law, new):
+        return [TAKEN]
+    for part in law.parts:
+        part.words = renamed(part.words, old, new)
+    for definition in law.definitions:
+        definition.body = renamed(definition.body, old, new)
+        if definition.word == old:
+            definition.word = new
+    return [0]
+
+
+def means(law, numbers):
+    part = numbers[0]
+    word = numbers[1]
+    day = numbers[2]
+    if part >= len(law.parts):
+        return [NOT_THERE]
+    number = definition_at(law, counting_on(law, day), part, word)
+    if number is None:
+        return [0]
+    definition = law.definitions[number]
+    return [1, number, definition.part] + definition.body
+
+
+def spell(law, numbers):
+    part = numbers[0]
+    day = numbers[1]
+    words = numbers[2:]
+    if part >= len(law.parts):
+        return [NOT_THERE]
+    if wrong_words(words):
+        return [WRONG]
+    longer = spelled_out(law, part, day, words)
+    if longer is None:
+        return [IN_A_CIRCLE]
+    if len(longer) > MOST_SPELLED:
+        return [TOO_MUCH]
+    return [len(longer)] + longer
+
+
+# Each stands at the place that is its number in a list of calls.
+CALLS = (begins, add_part, define, ends, rename, means, spell)
+
+
+def answers(calls):
+    law = Law()
+    given = []
+    at = 0
+    while at < len(calls):
+        behind = at + 2 + calls[at + 1]
+        call = CALLS[calls[at]]
+        answer = call(law, calls[at + 2:behind])
+        given.append(len(answer))
+        given.extend(answer)
+        # No call has lists: behind its numbers stands a 0 alone.
+        at = behind + 1
+    return given

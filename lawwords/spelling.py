@@ -1,0 +1,56 @@
+"""Texts and bodies spelled out, on a day."""
+
+from lawwords.meanings import counting_on, definitions_at, numbers_in_force
+
+MOST_SPELLED = 1000
+
+
+def all_spelled(links, spelled):
+    return all([link is None or link in spelled for link in links])
+
+
+# What is too long is cut one word behind the limit: it still shows as too long,
+# and bodies that repeat words many times over don't grow without bound.
+def put_together(words, links, spelled):
+    longer = []
+    for word, link in zip(words, links):
+        if link is None:
+            longer.append(word)
+        else:
+            longer.extend(spelled[link])
+        if len(longer) > MOST_SPELLED:
+            return longer[:MOST_SPELLED + 1]
+    return longer
+
+
+def links_of_bodies(law, counting, numbers):
+    links = {}
+    for number in numbers:
+        definition = law.definitions[number]
+        links[number] = definitions_at(law, counting, definition.part, definition.body)
+    return links
+
+
+# A body is spelled out once all the definitions that it leads to are.
+# So those that lead into a circle, and they alone, never come to be among the spelled.
+def spelled_bodies(law, counting, numbers):
+    links = links_of_bodies(law, counting, numbers)
+    spelled = {}
+    waiting = numbers
+    ready = [number for number in waiting if all_spelled(links[number], spelled)]
+    while ready:
+        for number in ready:
+            spelled[number] = put_together(law.definitions[number].body, links[number], spelled)
+        waiting = [number for number in waiting if number not in spelled]
+        ready = [number for number in waiting if all_spelled(links[number], spelled)]
+    return spelled
+
+
+# None if it can't be spelled out; one word more than the most there may be if it is too long.
+def spelled_out(law, part, day, words):
+    counting = counting_on(law, day)
+    spelled = spelled_bodies(law, counting, numbers_in_force(law, day))
+    links = definitions_at(law, counting, part, words)
+    if not all_spelled(links, spelled):
+        return None
+    return put_together(words, links, spelled)

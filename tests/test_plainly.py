@@ -1,0 +1,184 @@
+"""Many small laws, answered a second time by following the document word by word."""
+
+import random
+import unittest
+
+from tests.helper import ask, call
+
+
+class TooLong(Exception):
+    pass
+
+
+class Circle(Exception):
+    pass
+
+
+class Plain:
+    """Slow and direct: nothing is found ahead of time, circles by going through them."""
+
+    def __init__(self):
+        self.above = [None]
+        self.texts = [[]]
+        self.told = []
+
+    def bad(self, words):
+        return len(words) > 20 or any(not 1 <= word <= 99999 for word in words)
+
+    def part(self, above, *words):
+        if above not in range(len(self.above)):
+            return [-2]
+        if self.bad(words):
+            return [-1]
+        if len(self.above) == 15:
+            return [-5]
+        self.above.append(above)
+        self.texts.append(list(words))
+        return [len(self.above) - 1]
+
+    def define(self, part, word, start, stop, *body):
+        if part not in range(len(self.above)):
+            return [-2]
+        if self.bad([word]) or self.bad(body) or not body or max(start, stop) > 99999 or 0 < stop <= start:
+            return [-1]
+        if stop == 0:
+            stop = 10 ** 12
+        if len(self.told) == 20:
+            return [-5]
+        self.told.append([part, word, start, stop, list(body)])
+        return [len(self.told) - 1]
+
+    def ends(self, definition, day):
+        if definition not in range(len(self.told)):
+            return [-2]
+        if not self.told[definition][2] < day <= 99999:
+            return [-1]
+        self.told[definition][3] = day
+        return [0]
+
+    def all_words(self):
+        found = {word for text in self.texts for word in text}
+        for one in self.told:
+            found |= {one[1]} | set(one[4])
+        return found
+
+    def rename(self, word, other):
+        if self.bad([word, other]):
+            return [-1]
+        if word not in self.all_words():
+            return [-6]
+        if other in self.all_words():
+            return [-3]
+        new = {word: other}
+        self.texts = [[new.get(one, one) for one in text] for text in self.texts]
+        self.told = [[part, new.get(defined, defined), start, stop, [new.get(one, one) for one in body]]
+                     for part, defined, start, stop, body in self.told]
+        return [0]
+
+    def found(self, part, word, day):
+        while part is not None:
+            here = [(one[2], number) for number, one in enumerate(self.told)
+                    if one[0] == part and one[1] == word and one[2] <= day < one[3]]
+            if here:
+                return max(here)[1]
+            part = self.above[part]
+        return None
+
+    def means(self, part, word, day):
+        if part not in range(len(self.above)):
+            return [-2]
+        number = self.found(part, word, day)
+        if number is None:
+            return [0]
+        return [1, number, self.told[number][0]] + self.told[number][4]
+
+    def look_for_circles(self, part, day, words, way):
+        for word in words:
+            number = self.found(part, word, day)
+            if number is not None:
+                if number in way:
+                    raise Circle()
+                self.look_for_circles(self.told[number][0], day, self.told[number][4], way + [number])
+
+    def write(self, part, day, words, out):
+        for word in words:
+            number = self.found(part, word, day)
+            if number is None:
+                out.append(word)
+                if len(out) > 1000:
+                    raise TooLong()
+            else:
+                self.write(self.told[number][0], day, self.told[number][4], out)
+
+    def spell(self, part, day, *words):
+        if part not in range(len(self.above)):
+            return [-2]
+        if self.bad(words):
+            return [-1]
+        out = []
+        try:
+            self.look_for_circles(part, day, words, [])
+            self.write(part, day, words, out)
+        except Circle:
+            return [-7]
+        except TooLong:
+            return [-5]
+        return [len(out)] + out
+
+    def answer(self, one):
+        numbers = one[2:-1]
+        calls = (lambda: [0], self.part, self.define, self.ends, self.rename, self.means, self.spell)
+        return calls[one[0]](*numbers)
+
+
+def some_words(chance, most, words):
+    return [chance.randrange(1, words + 1) for number in range(chance.randrange(most + 1))]
+
+
+def some_call(chance, words, days):
+    kind = chance.choice((0, 1, 1, 1, 2, 2, 2, 2, 2, 3, 4, 5, 5, 6, 6, 6))
+    place = chance.randrange(5)
+    word = chance.randrange(1, words + 1)
+    day = chance.randrange(days)
+    if kind == 0:
+        return call(0)
+    if kind == 1:
+        return call(1, place, *some_words(chance, 3, words))
+    if kind == 2:
+        stop = chance.choice((0, 0, day + chance.randrange(days)))
+        return call(2, place, word, day, stop, *some_words(chance, 4, words))
+    if kind == 3:
+        return call(3, chance.randrange(10), day)
+    if kind == 4:
+        return call(4, word, chance.randrange(words + 5))
+    if kind == 5:
+        return call(5, place, word, day)
+    return call(6, place, day, *some_words(chance, 5, words))
+
+
+class Plainly(unittest.TestCase):
+    def compare(self, seed, words, days):
+        chance = random.Random(seed)
+        calls = [some_call(chance, words, days) for number in range(60)]
+        plain = Plain()
+        expected = [plain.answer(one) for one in calls]
+        self.assertEqual(ask(*calls), expected, (seed, calls))
+        return expected
+
+    def test_few_words(self):
+        for seed in range(150):
+            self.compare(seed, 6, 6)
+
+    def test_more_words_and_days(self):
+        for seed in range(150):
+            self.compare(seed, 25, 12)
+
+    def test_every_refusal_is_met(self):
+        met = set()
+        for seed in range(150):
+            met |= {answer[0] for answer in self.compare(seed, 12, 8) if answer[0] < 0}
+        self.assertLessEqual({-1, -2, -3, -6, -7}, met)
+
+
+if __name__ == "__main__":
+    unittest.main()
