@@ -50,8 +50,8 @@ def renamed(words, old, new):
     return [new if word == old else word for word in words]
 
 
-# A list of calls is about one law, new already: there is nothing left to begin.
 def begins(law, numbers):
+    law.begin()
     return [0]
 
 

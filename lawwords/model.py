@@ -18,6 +18,9 @@ class Definition:
 
 class Law:
     def __init__(self):
+        self.begin()
+
+    def begin(self):
         # The whole is in no part: a walk from part to part ends there.
         self.parts = [Part(None, [])]
         self.definitions = []

@@ -130,12 +130,15 @@ class Language(unittest.TestCase):
         taken = set()
         for kind in (str, int, list, dict, set, bytes):
             taken |= set(dir(kind))
+        own = [node.name for path in sources() for one in nodes(path) if isinstance(one, ast.ClassDef)
+               for node in one.body if node.name != "__init__"]
+        self.assertEqual(set(own) & taken, set())
         for path in sources():
             for node in nodes(path):
                 if isinstance(node, ast.Call) and isinstance(node.func, ast.Attribute):
-                    self.assertIn(node.func.attr, METHODS)
+                    self.assertIn(node.func.attr, METHODS + own)
                 if isinstance(node, ast.Attribute) and isinstance(node.ctx, ast.Store):
-                    self.assertNotIn(node.attr, taken)
+                    self.assertNotIn(node.attr, taken | set(own))
 
 
 if __name__ == "__main__":

@@ -18,9 +18,13 @@ class Plain:
     """Slow and direct: nothing is found ahead of time, circles by going through them."""
 
     def __init__(self):
+        self.begins()
+
+    def begins(self):
         self.above = [None]
         self.texts = [[]]
         self.told = []
+        return [0]
 
     def bad(self, words):
         return len(words) > 20 or any(not 1 <= word <= 99999 for word in words)
@@ -127,7 +131,7 @@ class Plain:
 
     def answer(self, one):
         numbers = one[2:-1]
-        calls = (lambda: [0], self.part, self.define, self.ends, self.rename, self.means, self.spell)
+        calls = (self.begins, self.part, self.define, self.ends, self.rename, self.means, self.spell)
         return calls[one[0]](*numbers)
 
 
@@ -136,7 +140,8 @@ def some_words(chance, most, words):
 
 
 def some_call(chance, words, days):
-    kind = chance.choice((0, 1, 1, 1, 2, 2, 2, 2, 2, 3, 4, 5, 5, 6, 6, 6))
+    # A law that begins anew often never grows.
+    kind = chance.choice((1, 1, 1, 2, 2, 2, 2, 2, 3, 4, 5, 5, 6, 6, 6)) if chance.randrange(100) else 0
     place = chance.randrange(5)
     word = chance.randrange(1, words + 1)
     day = chance.randrange(days)

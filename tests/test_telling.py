@@ -19,9 +19,30 @@ class Begins(unittest.TestCase):
     def test_answers_0(self):
         self.assertEqual(ask(begins()), [[0]])
 
-    def test_the_law_stays_the_same_one(self):
-        self.assertEqual(ask(begins(), part(0, [4]), define(1, 4, 0, 0, [5]), begins(), means(1, 4, 0), part(1)),
-                         [[0], [1], [0], [0], [1, 0, 1, 5], [2]])
+    def test_parts_told_before_are_gone(self):
+        self.assertEqual(ask(part(0, [3]), begins(), part(1, [4]), means(1, 3, 0), part(0, [4])),
+                         [[1], [0], [-2], [-2], [1]])
+
+    def test_definitions_told_before_are_gone(self):
+        self.assertEqual(ask(define(0, 5, 0, 0, [6]), begins(), means(0, 5, 0), spell(0, 0, [5]), ends(0, 9),
+                             define(0, 5, 0, 0, [7]), means(0, 5, 0)),
+                         [[0], [0], [0], [1, 5], [-2], [0], [1, 0, 0, 7]])
+
+    def test_words_told_before_stand_nowhere(self):
+        told = (part(0, [3]), define(0, 4, 0, 0, [5]), begins())
+        for word in (3, 4, 5):
+            self.assertEqual(last(*told, rename(word, 9)), [-6])
+            self.assertEqual(ask(*told, part(0, [8]), rename(8, word))[-2:], [[1], [0]])
+
+    def test_makes_room_again(self):
+        self.assertEqual(ask(*fourteen_parts(), begins(), *fourteen_parts())[14:],
+                         [[0]] + [[number] for number in range(1, 15)])
+        self.assertEqual(ask(*twenty_definitions(), begins(), *twenty_definitions())[20:],
+                         [[0]] + [[number] for number in range(20)])
+
+    def test_may_be_told_at_any_place_and_several_times(self):
+        self.assertEqual(ask(begins(), begins(), part(0, [3]), part(1), begins(), begins(), part(0), part(1), begins()),
+                         [[0], [0], [1], [2], [0], [0], [1], [2], [0]])
 
     def test_without_it_the_whole_is_there_alone(self):
         self.assertEqual(ask(means(0, 1, 0), means(1, 1, 0), ends(0, 1)), [[0], [-2], [-2]])
