@@ -1,8 +1,9 @@
 """The calls on a law, and what is answered to them."""
 
-from lawwords.meanings import WITHOUT_END, counting_on, definition_at
+from lawwords.meanings import WITHOUT_END, counting_on, definition_at, definitions_at, hidden_on, turning_days
 from lawwords.model import Definition, Law, Part
-from lawwords.spelling import MOST_SPELLED, spelled_out
+from lawwords.needs import unused_on
+from lawwords.spelling import leading_into_circles, spelled_out, too_long
 
 WRONG = -1
 NOT_THERE = -2
@@ -48,6 +49,18 @@ def stands_somewhere(law, word):
 
 def renamed(words, old, new):
     return [new if word == old else word for word in words]
+
+
+def counted(found):
+    return [len(found)] + found
+
+
+def spelled_answer(longer):
+    if longer is None:
+        return [IN_A_CIRCLE]
+    if too_long(longer):
+        return [TOO_MUCH]
+    return counted(longer)
 
 
 def begins(law, numbers):
@@ -135,16 +148,63 @@ def spell(law, numbers):
         return [NOT_THERE]
     if wrong_words(words):
         return [WRONG]
-    longer = spelled_out(law, part, day, words)
-    if longer is None:
-        return [IN_A_CIRCLE]
-    if len(longer) > MOST_SPELLED:
+    return spelled_answer(spelled_out(law, part, day, words))
+
+
+def text(law, numbers):
+    part = numbers[0]
+    day = numbers[1]
+    if part >= len(law.parts):
+        return [NOT_THERE]
+    return spelled_answer(spelled_out(law, part, day, law.parts[part].words))
+
+
+def circles(law, numbers):
+    return counted(leading_into_circles(law, numbers[0]))
+
+
+def unused(law, numbers):
+    return counted(unused_on(law, numbers[0]))
+
+
+def hidden(law, numbers):
+    return counted(hidden_on(law, numbers[0]))
+
+
+def differs(law, numbers):
+    part = numbers[0]
+    other = numbers[1]
+    day = numbers[2]
+    words = numbers[3:]
+    if part >= len(law.parts) or other >= len(law.parts):
+        return [NOT_THERE]
+    if wrong_words(words):
+        return [WRONG]
+    counting = counting_on(law, day)
+    here = definitions_at(law, counting, part, words)
+    there = definitions_at(law, counting, other, words)
+    return counted([place for place in range(len(words)) if here[place] != there[place]])
+
+
+def changes(law, numbers):
+    part = numbers[0]
+    words = numbers[1:]
+    if part >= len(law.parts):
+        return [NOT_THERE]
+    if wrong_words(words):
+        return [WRONG]
+    days = turning_days(law)
+    longer = [spelled_out(law, part, day, words) for day in days]
+    # On a day on which it can't be spelled out it has no length, so it isn't too long on that day.
+    if any([too_long(one) for one in longer]):
         return [TOO_MUCH]
-    return [len(longer)] + longer
+    if None in longer:
+        return [IN_A_CIRCLE]
+    return counted([days[at] for at in range(1, len(days)) if longer[at] != longer[at - 1]])
 
 
 # Each stands at the place that is its number in a list of calls.
-CALLS = (begins, add_part, define, ends, rename, means, spell)
+CALLS = (begins, add_part, define, ends, rename, means, spell, text, circles, unused, hidden, differs, changes)
 
 
 def answers(calls):

@@ -39,3 +39,29 @@ def definition_at(law, counting, part, word):
 
 def definitions_at(law, counting, part, words):
     return [definition_at(law, counting, part, word) for word in words]
+
+
+# The words of a body mean what they mean at the part for which its definition is, wherever that is used.
+def definitions_in_body(law, counting, number):
+    definition = law.definitions[number]
+    return definitions_at(law, counting, definition.part, definition.body)
+
+
+def is_hidden(law, counting, number):
+    definition = law.definitions[number]
+    return definition_at(law, counting, definition.part, definition.word) != number
+
+
+def hidden_on(law, day):
+    counting = counting_on(law, day)
+    return [number for number in numbers_in_force(law, day) if is_hidden(law, counting, number)]
+
+
+# From each of these days to the next one, and behind the last, the same definitions are in force.
+def turning_days(law):
+    days = [0]
+    for definition in law.definitions:
+        days.append(definition.since)
+        if definition.until != WITHOUT_END:
+            days.append(definition.until)
+    return sorted(set(days))

@@ -1,6 +1,6 @@
 """Texts and bodies spelled out, on a day."""
 
-from lawwords.meanings import counting_on, definitions_at, numbers_in_force
+from lawwords.meanings import counting_on, definitions_at, definitions_in_body, numbers_in_force
 
 MOST_SPELLED = 1000
 
@@ -26,8 +26,7 @@ def put_together(words, links, spelled):
 def links_of_bodies(law, counting, numbers):
     links = {}
     for number in numbers:
-        definition = law.definitions[number]
-        links[number] = definitions_at(law, counting, definition.part, definition.body)
+        links[number] = definitions_in_body(law, counting, number)
     return links
 
 
@@ -46,6 +45,12 @@ def spelled_bodies(law, counting, numbers):
     return spelled
 
 
+def leading_into_circles(law, day):
+    numbers = numbers_in_force(law, day)
+    spelled = spelled_bodies(law, counting_on(law, day), numbers)
+    return [number for number in numbers if number not in spelled]
+
+
 # None if it can't be spelled out; one word more than the most there may be if it is too long.
 def spelled_out(law, part, day, words):
     counting = counting_on(law, day)
@@ -54,3 +59,7 @@ def spelled_out(law, part, day, words):
     if not all_spelled(links, spelled):
         return None
     return put_together(words, links, spelled)
+
+
+def too_long(longer):
+    return longer is not None and len(longer) > MOST_SPELLED

@@ -37,6 +37,35 @@ def spell(place, day, words):
     return call(6, place, day, *words)
 
 
+def text(place, day):
+    return call(7, place, day)
+
+
+def circles(day):
+    return call(8, day)
+
+
+def unused(day):
+    return call(9, day)
+
+
+def hidden(day):
+    return call(10, day)
+
+
+def differs(place, other, day, words):
+    return call(11, place, other, day, *words)
+
+
+def changes(place, words):
+    return call(12, place, *words)
+
+
+def chain(length, times):
+    """Words 1 to length, each defined by the next one, written times over."""
+    return [define(0, word, 0, 0, [word + 1] * times) for word in range(1, length + 1)]
+
+
 def line(calls):
     return [number for one in calls for number in one]
 

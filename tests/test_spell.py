@@ -3,12 +3,7 @@
 import time
 import unittest
 
-from tests.helper import TOP, ask, define, ends, last, means, part, rename, spell
-
-
-def chain(length, times):
-    """Words 1 to length, each defined by the next one, written times over."""
-    return [define(0, word, 0, 0, [word + 1] * times) for word in range(1, length + 1)]
+from tests.helper import TOP, ask, chain, define, ends, last, means, part, rename, spell
 
 
 class Spelled(unittest.TestCase):
